@@ -105,16 +105,23 @@ func sameObj(a MemObj, b MemObj) bool {
 // It need not be ok itself: what is watched and cannot be come to is -1.
 func lookOf(h MemHeap) MemHeap {
 	reach := MemReach(h)
-	where := wheres(reach, len(h.Objs))
-	var look MemHeap
+	var objs []MemObj
 	for _, place := range reach {
-		o := h.Objs[place]
-		look.Objs = append(look.Objs, MemObj{Kind: o.Kind, Text: o.Text, Refs: wheresOf(o.Refs, where)})
+		objs = append(objs, h.Objs[place])
 	}
-	look.Roots = wheresOf(h.Roots, where)
-	look.Watch = watchesBy(h.Watch, where)
-	look.Ready = watchesBy(h.Ready, where)
-	return look
+	return placedBy(h, objs, wheres(reach, len(h.Objs)))
+}
+
+// placedBy is the heap with just these objects of it, and all places told by where they are now.
+func placedBy(h MemHeap, objs []MemObj, where []int) MemHeap {
+	var placed MemHeap
+	for _, o := range objs {
+		placed.Objs = append(placed.Objs, MemObj{Kind: o.Kind, Text: o.Text, Refs: wheresOf(o.Refs, where)})
+	}
+	placed.Roots = wheresOf(h.Roots, where)
+	placed.Watch = watchesBy(h.Watch, where)
+	placed.Ready = watchesBy(h.Ready, where)
+	return placed
 }
 
 // wheres tells of each of that many objects where in reach it is, -1 if it is not there.

@@ -121,26 +121,28 @@ func (d *dice) obj(size int) impl.MemObj {
 // heap is an ok heap of that many objects.
 func (d *dice) heap(size int) impl.MemHeap {
 	var h impl.MemHeap
+	for range size {
+		h.Objs = append(h.Objs, d.obj(size))
+	}
+	h.Roots = d.places(d.below(impl.MemMaxRoots+1), size)
+	h.Watch = d.watches(h.Objs)
+	h.Ready = d.watches(h.Objs)
+	return h
+}
+
+// watches are some pairs of a guardian and any object of these; none, if there is no guardian.
+func (d *dice) watches(objs []impl.MemObj) []impl.MemWatch {
 	var guards []int
-	for i := range size {
-		o := d.obj(size)
-		h.Objs = append(h.Objs, o)
+	for i, o := range objs {
 		if o.Kind == impl.MemGuard {
 			guards = append(guards, i)
 		}
 	}
-	h.Roots = d.places(d.below(impl.MemMaxRoots+1), size)
-	if len(guards) > 0 {
-		h.Watch = d.watches(guards, size)
-		h.Ready = d.watches(guards, size)
-	}
-	return h
-}
-
-func (d *dice) watches(guards []int, size int) []impl.MemWatch {
 	var list []impl.MemWatch
-	for range d.below(impl.MemMaxWatch/2 + 1) {
-		list = append(list, impl.MemWatch{Guard: guards[d.below(len(guards))], Obj: d.below(size)})
+	if len(guards) > 0 {
+		for range d.below(impl.MemMaxWatch/2 + 1) {
+			list = append(list, impl.MemWatch{Guard: guards[d.below(len(guards))], Obj: d.below(len(objs))})
+		}
 	}
 	return list
 }
@@ -154,6 +156,38 @@ func okHeaps() []impl.MemHeap {
 	}
 	for range 40 {
 		list = append(list, d.heap(impl.MemMaxObjs))
+	}
+	return list
+}
+
+// sparse is an ok heap of which little is known but a guardian, so that much is left to be told of.
+func (d *dice) sparse(size int) impl.MemHeap {
+	known := d.below(size)
+	h := impl.MemHeap{Roots: roots(-1, known)}
+	for i := range size {
+		o := d.obj(size)
+		if i == known || d.below(3) == 0 {
+			o = guard()
+		}
+		for at := range o.Refs {
+			if d.below(2) == 0 {
+				o.Refs[at] = -1
+			}
+		}
+		h.Objs = append(h.Objs, o)
+	}
+	h.Watch = d.watches(h.Objs)
+	h.Ready = d.watches(h.Objs)
+	h.Ready = h.Ready[:min(len(h.Ready), d.below(3))]
+	return h
+}
+
+// toldHeaps are okHeaps, and such of which much is left to be told of.
+func toldHeaps() []impl.MemHeap {
+	d := &dice{state: 17}
+	list := okHeaps()
+	for i := range 1500 {
+		list = append(list, d.sparse(1+i%14))
 	}
 	return list
 }
